@@ -278,10 +278,4 @@ func TestP10_3NothingIsChanged(t *testing.T) {
 	if v != three() || !slices.Equal(room, kept) || !slices.Equal(spare, keptSpare) {
 		t.Error("changed")
 	}
-	k := key(0)
-	vote.Approve(v, 5, k, 5, ops())
-	vote.Approve(v, 0, k, 5, nil)
-	if k.Made() {
-		t.Error("a key is asked where an error comes ahead of it")
-	}
 }
