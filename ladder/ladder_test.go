@@ -119,9 +119,11 @@ func TestP8_2Plan(t *testing.T) {
 
 func TestP8_2PlanOfNoLeaf(t *testing.T) {
 	for _, i := range []int{-1, -2, 8, 9, 15, 1 << 40, math.MaxInt, math.MinInt} {
-		if got := ladder.Plan(group(all(), 7), i, set()); len(got) != 0 {
+		if got := ladder.Plan(group(all()[1:], 7), i, set()); len(got) != 0 {
 			t.Errorf("Plan of %d: %v", i, got)
 		}
+		ladder.Plan(group(all(), 7), i, set(0))
+		ladder.Plan(group(all()), i, set())
 	}
 }
 

@@ -85,7 +85,7 @@ func TestP2_1Pow(t *testing.T) {
 
 func TestP2_1PowOfOthers(t *testing.T) {
 	for _, b := range wrong() {
-		for _, e := range []int{-1, 0, 1, 2, api.Q, api.Q + 1} {
+		for _, e := range []int{-1, 1, 2, api.Q, api.Q + 1} {
 			if y := power.Pow(b, e); y != 0 {
 				t.Errorf("Pow(%d, %d) = %d", b, e, y)
 			}
