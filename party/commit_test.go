@@ -149,35 +149,6 @@ func TestP13_2ByTheBook(t *testing.T) {
 	}
 }
 
-// take has all others take a commit, and those join who were added.
-func (g *group) take(by int, c api.Commit, w []api.Welcome, next *party.Party) {
-	g.t.Helper()
-	after := map[int]*party.Party{by: next}
-	for i, p := range g.parties {
-		if i == by {
-			continue
-		}
-		if q, err := p.Process(c); err != api.OK {
-			g.t.Fatalf("Process by %d: %v", i, err)
-		} else if q != nil {
-			after[i] = q
-		}
-	}
-	for _, x := range w {
-		for i := range 40 {
-			if party.Leaf(seed(i)) == x.View.Tree.Leaves[x.Leaf] {
-				q, err := party.Join(seed(i), x)
-				if err != api.OK {
-					g.t.Fatalf("Join by %d: %v", i, err)
-				}
-				after[i] = q
-			}
-		}
-	}
-	g.parties = after
-	g.agree()
-}
-
 func TestP13_2CommitErrors(t *testing.T) {
 	g := begin(t, 3)
 	g.step(0, promote(1), limit(2))

@@ -86,30 +86,33 @@ func (g *group) commit(by int, l ...api.Op) (api.Commit, []api.Welcome, *party.P
 // step has a party commit, all others take it, and those join who were added.
 func (g *group) step(by int, l ...api.Op) {
 	g.t.Helper()
-	c, welcomes, next := g.commit(by, l...)
+	c, w, next := g.commit(by, l...)
+	g.take(by, c, w, next)
+}
+
+// take has all others take a commit, and those join who were added.
+func (g *group) take(by int, c api.Commit, w []api.Welcome, next *party.Party) {
+	g.t.Helper()
 	after := map[int]*party.Party{by: next}
 	for i, p := range g.parties {
 		if i == by {
 			continue
 		}
-		q, err := p.Process(c)
-		if err != api.OK {
-			g.t.Fatalf("Process of %v by %d: %v", l, i, err)
-		}
-		if q != nil {
+		if q, err := p.Process(c); err != api.OK {
+			g.t.Fatalf("Process by %d: %v", i, err)
+		} else if q != nil {
 			after[i] = q
 		}
 	}
-	for _, w := range welcomes {
+	for _, x := range w {
 		for i := range 40 {
-			if party.Leaf(seed(i)) != w.View.Tree.Leaves[w.Leaf] {
-				continue
+			if party.Leaf(seed(i)) == x.View.Tree.Leaves[x.Leaf] {
+				q, err := party.Join(seed(i), x)
+				if err != api.OK {
+					g.t.Fatalf("Join by %d: %v", i, err)
+				}
+				after[i] = q
 			}
-			p, err := party.Join(seed(i), w)
-			if err != api.OK {
-				g.t.Fatalf("Join of %d: %v", i, err)
-			}
-			after[i] = p
 		}
 	}
 	g.parties = after

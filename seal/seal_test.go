@@ -215,3 +215,10 @@ func fill(p []byte) {
 		p[i] = 0xee
 	}
 }
+
+func TestW1ZeroKeyEnds(t *testing.T) {
+	b, _ := seal.Seal(key("k").Public(), sum("d"), []byte("hello"))
+	if p, err := seal.Open(new(pair.Key), b); err != api.ErrSeal || len(p) != 0 {
+		t.Errorf("%x, %v", p, err)
+	}
+}
